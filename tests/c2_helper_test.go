@@ -4,6 +4,7 @@ import (
 	"math"
 	"strings"
 	"testing"
+	"unsafe"
 
 	"loop.example/slowworm/impl"
 )
@@ -123,6 +124,12 @@ func swapped(t *testing.T, s string, part string, to string) string {
 	t.Helper()
 	swap, ok := impl.TextSwap(s, part, to)
 	return done(t, "the swap of a text", swap, ok)
+}
+
+// sharesMemory reports whether a text that is not empty lies within another one.
+func sharesMemory(part string, s string) bool {
+	start, at := uintptr(unsafe.Pointer(unsafe.StringData(s))), uintptr(unsafe.Pointer(unsafe.StringData(part)))
+	return part != "" && at >= start && at < start+uintptr(len(s))
 }
 
 // is reports whether a result is the text wanted, or none if that is not there.
