@@ -394,6 +394,9 @@ func TestLexOfTwoFaults(t *testing.T) {
 	for _, c := range []faultCase{{"$", 1, 1}, {"more_than_12_", 1, 1}, {"'a", 1, 2}, {"01", 1, 3}, {")", 1, 5}} {
 		cases = append(cases, faultCase{strings.Repeat("x\n", 750) + c.text, 751, c.code})
 	}
+	// Spaces that fit no level are told ahead of the TokOut that would be one too many.
+	levels := "a\n  b\n    c" + strings.Repeat(" x", 1492) + "\n"
+	cases = append(cases, faultCase{levels + " d", 4, 4}, faultCase{levels + "  d", 4, 6}, faultCase{levels + "d", 4, 6}, faultCase{levels, 4, 6})
 	checkFaults(t, append(cases, faultCase{strings.Repeat("(", 1500), 1, 5}, faultCase{strings.Repeat("(", 1501), 1, 6}, faultCase{"  b\n c\n (", 2, 4}))
 }
 
