@@ -236,18 +236,8 @@ func TestExprGetOfAllShortTexts(t *testing.T) {
 		{"a - not ** + and", 6}, {"a if else or lambda :", 6}, {"f ( ) , = x", 6}, {"[ ] { } : ,", 5}, {"a [ ] { } : ,", 5}, {"a < in not ( )", 6}, {"a . ( ) [ ] 1", 5},
 		{"lambda : , a ( )", 6}, {"yield a ( ) , lambda :", 5}, {"a - * ** ( )", 6},
 	} {
-		last := []string{""}
-		for range c.most {
-			var longer []string
-			for _, text := range last {
-				for _, word := range strings.Fields(c.words) {
-					longer = append(longer, strings.TrimPrefix(text+" "+word, " "))
-				}
-			}
-			for _, text := range longer {
-				checkGet(t, text)
-			}
-			last = longer
+		for _, text := range allTexts(strings.Fields(c.words), c.most, " ") {
+			checkGet(t, text)
 		}
 	}
 }

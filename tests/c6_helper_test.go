@@ -448,10 +448,37 @@ func looseTexts() ([]string, []impl.Expr) {
 	return list, told
 }
 
+// allTexts returns all texts of at least one and at most so many pieces, with a text between them.
+func allTexts(pieces []string, most int, between string) []string {
+	var all []string
+	last := pieces
+	for range most {
+		all = append(all, last...)
+		var longer []string
+		for _, text := range last {
+			for _, piece := range pieces {
+				longer = append(longer, text+between+piece)
+			}
+		}
+		last = longer
+	}
+	return all
+}
+
 // isTooLong reports whether a text is too long to be read.
 func isTooLong(text string) bool {
 	_, f := lexWanted(text)
 	return f.Code == 6
+}
+
+// checkMany checks that there are enough of all, which are counted from 1 on.
+func checkMany(t *testing.T, what string, counts []int, least int) {
+	t.Helper()
+	for i, n := range counts {
+		if n < least {
+			t.Errorf("%d %s %d", n, what, i+1)
+		}
+	}
 }
 
 // TestHelpersOfExpressions checks that the expressions of the tests have what the tests are for.
@@ -473,16 +500,8 @@ func TestHelpersOfExpressions(t *testing.T) {
 			long++
 		}
 	}
-	for kind := 1; kind <= 17; kind++ {
-		if kinds[kind] < 500 {
-			t.Errorf("%d expressions of the kind %d", kinds[kind], kind)
-		}
-	}
-	for depth := 1; depth <= 7; depth++ {
-		if depths[depth] < 100 {
-			t.Errorf("%d expressions of the depth %d", depths[depth], depth)
-		}
-	}
+	checkMany(t, "expressions of the kind", kinds[1:18], 500)
+	checkMany(t, "expressions of the depth", depths[1:8], 100)
 	if withNames < 500 || long < 2 || long > 100 {
 		t.Errorf("%d expressions with names, %d of which the texts are too long", withNames, long)
 	}
